@@ -1,0 +1,1 @@
+"""Stilldose: a limiter in front of a pump."""
