@@ -16,6 +16,11 @@ def checked_rules(rules):
     return list(rules)
 
 
+def longest_window(rules):
+    """How many ticks the longest window of the rules has."""
+    return max([rule[0] for rule in rules])
+
+
 def sum_of_last(numbers, many):
     """The sum of the last so many numbers, or of all if there are fewer."""
     first = max(0, len(numbers) - many)

@@ -65,10 +65,37 @@ def bound_names(tree):
     return names
 
 
+def drawn_from(tree):
+    """The names of the package's files that a file draws from."""
+    return [node.module.split(".")[1] for node in tree.body if isinstance(node, ast.ImportFrom)]
+
+
+def is_plain(value):
+    """Whether a value of a file's top is a number, a text, or a tuple of such."""
+    if isinstance(value, ast.Tuple):
+        return all(is_plain(part) for part in value.elts)
+    return isinstance(value, ast.Constant)
+
+
+def classes():
+    return [(path, node) for path, node in nodes() if isinstance(node, ast.ClassDef)]
+
+
+def functions():
+    return [(path, node) for path, node in nodes() if isinstance(node, ast.FunctionDef)]
+
+
+def locals_of(function):
+    """The parameters of a function, and all that it gives a value to."""
+    inner = [node for node in ast.walk(function) if isinstance(node, (ast.arg, ast.Name))]
+    given = [node.arg for node in inner if isinstance(node, ast.arg)]
+    return given + [node.id for node in inner if isinstance(node, ast.Name) and isinstance(node.ctx, ast.Store)]
+
+
 class Files(unittest.TestCase):
     def test_there_are_files(self):
         names = [path.name for path in sources()]
-        for name in ["__init__.py", "errors.py", "rates.py", "limits.py"]:
+        for name in ["__init__.py", "errors.py", "rates.py", "limits.py", "pumps.py", "saves.py", "ahead.py"]:
             self.assertIn(name, names)
 
     def test_nothing_else_lies_in_the_package(self):
@@ -106,6 +133,50 @@ class Forms(unittest.TestCase):
                 for alias in node.names:
                     self.assertIn(alias.name, defined)
                     self.assertIsNone(alias.asname)
+
+    def test_no_two_files_draw_from_one_another(self):
+        drawn = {path.stem: drawn_from(tree) for path, tree in trees().items()}
+        settled = []
+        while len(settled) < len(drawn):
+            free = [name for name in drawn if name not in settled and all(other in settled for other in drawn[name])]
+            self.assertNotEqual(free, [], settled)
+            settled += free
+
+    def test_the_top_of_a_file(self):
+        for path, tree in trees().items():
+            self.assertIsInstance(ast.get_docstring(tree), str, path)
+            bound = []
+            for node in tree.body[1:]:
+                self.assertIsInstance(node, (ast.ImportFrom, ast.FunctionDef, ast.ClassDef, ast.Assign), path)
+                if isinstance(node, ast.ImportFrom):
+                    bound += [alias.name for alias in node.names]
+                elif isinstance(node, ast.Assign):
+                    self.assertTrue(is_plain(node.value), (path, node.lineno))
+                    bound += [target.id for target in node.targets]
+                else:
+                    bound.append(node.name)
+            self.assertEqual(len(bound), len(dict.fromkeys(bound)), path)
+
+    def test_locals_hide_no_name_of_the_top(self):
+        for path, tree in trees().items():
+            top = bound_names(ast.Module([node for node in tree.body if isinstance(node, ast.ImportFrom)], []))
+            top += [node.name for node in tree.body if isinstance(node, (ast.ClassDef, ast.FunctionDef))]
+            for function in [node for node in ast.walk(tree) if isinstance(node, ast.FunctionDef)]:
+                for name in locals_of(function):
+                    self.assertNotIn(name, top, (path, function.name))
+
+    def test_no_defaults_and_no_annotations(self):
+        for path, node in functions():
+            self.assertEqual((node.args.defaults, node.returns), ([], None), (path, node.name))
+            self.assertTrue(all(given.annotation is None for given in node.args.args), (path, node.name))
+
+    def test_one_target(self):
+        for path, node in nodes():
+            if isinstance(node, ast.Assign):
+                self.assertEqual(len(node.targets), 1, (path, node.lineno))
+                self.assertIsInstance(node.targets[0], (ast.Name, ast.Attribute, ast.Subscript), (path, node.lineno))
+            if isinstance(node, (ast.For, ast.While)):
+                self.assertEqual(node.orelse, [], (path, node.lineno))
 
     def test_functions(self):
         for path, node in nodes():
@@ -145,6 +216,51 @@ class Forms(unittest.TestCase):
         for path, node in nodes():
             if isinstance(node, ast.Attribute) and isinstance(node.ctx, ast.Store):
                 self.assertNotIn(node.attr, own_methods() + METHODS, (path, node.lineno))
+
+    def test_no_method_stands_twice(self):
+        for path, made in classes():
+            names = [part.name for part in made.body if isinstance(part, ast.FunctionDef)]
+            self.assertEqual(len(names), len(dict.fromkeys(names)), (path, made.name))
+
+    def test_own_names_are_not_those_of_pythons_values(self):
+        taken = [name for kind in [str, int, list, dict, set, bytes, tuple] for name in vars(kind)]
+        values = [node for path, node in nodes() if isinstance(node, ast.Attribute)]
+        stored = [node.attr for node in values if isinstance(node.ctx, ast.Store)]
+        for name in own_methods() + stored:
+            if name not in DOUBLE:
+                self.assertNotIn(name, taken)
+
+    def test_methods_are_called_where_they_stand(self):
+        found = nodes()
+        called = [node.func for path, node in found if isinstance(node, ast.Call)]
+        for path, node in found:
+            if isinstance(node, ast.Attribute) and node.attr in own_methods() + METHODS:
+                self.assertIn(node, called, (path, node.lineno))
+
+    def test_pythons_own_are_called_without_keywords(self):
+        for path, node in nodes():
+            if isinstance(node, ast.Call):
+                self.assertEqual(node.keywords, [], (path, node.lineno))
+
+    def test_what_is_walked_at_once(self):
+        found = nodes()
+        walked = [node.iter for path, node in found if isinstance(node, (ast.For, ast.comprehension))]
+        for path, node in found:
+            if isinstance(node, ast.Call) and isinstance(node.func, ast.Name):
+                if node.func.id in ["zip", "enumerate", "reversed", "range"]:
+                    self.assertIn(node, walked, (path, node.lineno))
+                self.assertNotIn(node.func.id, ["set", "frozenset"], (path, node.lineno))
+
+    def test_errors_are_made_on_the_spot(self):
+        for path, node in nodes():
+            if isinstance(node, ast.Raise):
+                self.assertIsInstance(node.exc, ast.Call, (path, node.lineno))
+                self.assertIn(node.exc.func.id, [made.name for file, made in classes()], (path, node.lineno))
+
+    def test_init_gives_back_nothing(self):
+        for path, node in functions():
+            if node.name == "__init__":
+                self.assertFalse(any(isinstance(part, ast.Return) for part in ast.walk(node)), path)
 
     def test_plain_values(self):
         for path, node in nodes():
